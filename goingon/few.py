@@ -1,18 +1,64 @@
 """Calls that are each by themselves."""
 
-from goingon.form import read_matrix
+from goingon.form import form_bytes, form_size, how_many, read_matrix, shape_fits
+from goingon.matrices import full_numbers, made, turned
 from goingon.reader import Fault, Reader
+from goingon.whole import outside
 
 MOST_BYTES = 2097152
+MOST_PAIRS = 65536
 
 
 def few_check(s):
     if len(s) > MOST_BYTES:
         return [-1]
-    reader = Reader(s)
     try:
-        matrix = read_matrix(reader)
-        reader.nothing_follows()
+        matrix = whole_matrix(s)
     except Fault as fault:
         return [-2, fault.place, fault.kind]
-    return [0, matrix.rows, matrix.columns, sum([len(line) for line in matrix.lines])]
+    return [0, matrix.rows, matrix.columns, how_many(matrix)]
+
+
+def few_make(rows, cols, most, place, value):
+    if len(place) > MOST_PAIRS or outside(most, 0, MOST_BYTES) or not shape_fits(rows, cols):
+        return [-1]
+    if any([number >= rows * cols for number in place]):
+        return [-3]
+    return form_answer(made(rows, cols, place, value), most)
+
+
+def few_full(most, s):
+    if len(s) > MOST_BYTES or outside(most, 0, MOST_BYTES):
+        return [-1]
+    try:
+        matrix = whole_matrix(s)
+    except Fault:
+        return [-2]
+    places = matrix.rows * matrix.columns
+    if places > most:
+        return [-4]
+    return [places] + full_numbers(matrix)
+
+
+def few_turn(most, s):
+    if len(s) > MOST_BYTES or outside(most, 0, MOST_BYTES):
+        return [-1]
+    try:
+        matrix = whole_matrix(s)
+    except Fault:
+        return [-2]
+    return form_answer(turned(matrix), most)
+
+
+def whole_matrix(data):
+    reader = Reader(data)
+    matrix = read_matrix(reader)
+    reader.nothing_follows()
+    return matrix
+
+
+def form_answer(matrix, most):
+    size = form_size(matrix)
+    if size > most:
+        return [-4]
+    return [size] + form_bytes(matrix)

@@ -1,5 +1,7 @@
 """Bytes that are read from the front, and the faults they may have."""
 
+from goingon.whole import outside
+
 
 class Fault(Exception):
     def __init__(self, place, kind):
@@ -42,6 +44,6 @@ class Reader:
 
 
 def within(number, low, high, start):
-    if number < low or number > high:
+    if outside(number, low, high):
         raise Fault(start, 2)
     return number

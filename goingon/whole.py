@@ -4,6 +4,10 @@ BYTE_TOP = 127
 WORD_TOP = 32767
 
 
+def outside(number, low, high):
+    return number < low or number > high
+
+
 def near(a, b):
     return (2 * a + b) // (2 * b)
 

@@ -1,5 +1,7 @@
-"""Nets as plain dicts, their bytes, the calls, and the document's words told once more, slowly and plainly."""
+"""Matrices as lists of rows, nets as plain dicts, their bytes, the calls, and the document's words told once more,
+slowly and plainly."""
 
+import copy
 import random
 from fractions import Fraction
 from math import floor, isqrt
@@ -15,6 +17,14 @@ def little(number, size):
     return list((number % 256 ** size).to_bytes(size, "little"))
 
 
+def header(rows, columns):
+    return little(rows, 2) + little(columns, 2)
+
+
+def mask(*bits):
+    return little(sum(1 << bit for bit in bits), 8)
+
+
 def form(matrix):
     data = little(len(matrix), 2) + little(len(matrix[0]), 2)
     for row in matrix:
@@ -23,6 +33,23 @@ def form(matrix):
             data += little(sum(1 << j for j, number in enumerate(block) if number), 8)
             data += [number % 256 for number in block if number]
     return data
+
+
+def form_answer(matrix):
+    """What is answered where this matrix comes out."""
+    data = form(matrix)
+    return [len(data)] + data
+
+
+def broken_forms():
+    """Of each kind of a form's fault some bytes that have it."""
+    good = form([[1, 2], [0, 3]])
+    ended = [good[:end] for end in range(len(good))]
+    out_of_range = [header(0, 2) + mask(), header(4097, 1), header(1, 0), header(1, 4097), header(1024, 1025)]
+    zeros_written = [header(1, 2) + mask(0, 1) + [5, 0], header(2, 1) + mask(0) + [0] + mask()]
+    masks_too_wide = [header(1, 2) + mask(2) + [1], header(1, 66) + mask(63) + [1] + mask(0, 2) + [1, 1]]
+    left_over = [good + [0], good + good]
+    return ended + out_of_range + zeros_written + masks_too_wide + left_over
 
 
 def scaled_bytes(scaled):
@@ -74,6 +101,45 @@ def part_place(net, wanted):
             return place
         place += len(part)
     raise KeyError(wanted)
+
+
+# What is handed in.
+
+class Unchangeable(list):
+    """A list that tells on whoever changes it, for a while too."""
+
+    def refuse(self, *given, **named):
+        raise AssertionError("what is handed in is changed")
+
+    __setitem__ = __delitem__ = __iadd__ = __imul__ = refuse
+    append = clear = extend = insert = pop = remove = reverse = sort = refuse
+
+
+def sealed(given):
+    return [Unchangeable(one) if isinstance(one, list) else one for one in given]
+
+
+def check_call(case, call, given, expected):
+    """The call answers this, twice, with whole numbers in a new list, and changes nothing of what is handed in."""
+    before = copy.deepcopy(given)
+    first = call(*given)
+    case.assertEqual(first, expected)
+    case.assertEqual(given, before)
+    case.assertIs(type(first), list)
+    case.assertLessEqual({type(number) for number in first}, {int})
+    first.append(0)
+    case.assertEqual(call(*sealed(given)), expected)
+
+
+def check_most(case, call, needed, expected, highest=2097152):
+    """call takes most alone; needed is the least most by which expected is answered."""
+    for most in sorted({needed, needed + 1, highest}):
+        case.assertEqual(call(most), expected, most)
+    for most in sorted({0, 1, needed // 2, needed - 1}):
+        if most < needed:
+            case.assertEqual(call(most), [-4], most)
+    for most in (-1, -2147483648, highest + 1, 2147483647):
+        case.assertEqual(call(most), [-1], most)
 
 
 # Nets.

@@ -2,15 +2,7 @@ import unittest
 
 from goingon.few import few_check
 
-from helper import form, little, zeros
-
-
-def header(rows, columns):
-    return little(rows, 2) + little(columns, 2)
-
-
-def mask(*bits):
-    return little(sum(1 << bit for bit in bits), 8)
+from helper import form, header, little, mask, zeros
 
 
 class Matrices(unittest.TestCase):
@@ -136,6 +128,12 @@ class BytesLeftOver(unittest.TestCase):
 
     def test_behind_zeros_alone(self):
         self.assertEqual(few_check(header(1, 1) + mask() + [0]), [-2, 12, 5])
+
+
+class HowManyBytes(unittest.TestCase):
+    def test_more_than_2097152(self):
+        self.assertEqual(few_check([0] * 2097153), [-1])
+        self.assertEqual(few_check([0] * 2097152), [-2, 0, 2])
 
 
 class TheFirstFromTheFront(unittest.TestCase):

@@ -8,7 +8,8 @@ from goingon.few import few_check
 from goingon.net import answers
 
 import helper
-from helper import Plain, ask, ask_net, begin, feed, forget, form, net_bytes, parted, silent_net, some_net, tell, write
+from helper import (Plain, Unchangeable, ask, ask_net, begin, feed, forget, form, net_bytes, parted, silent_net,
+                    some_net, tell, write)
 
 
 def some_call(source, net):
@@ -56,16 +57,6 @@ def scaled_part(source, rows, columns):
     """Few numbers, so that a net with wide rows still fits into a list of calls."""
     matrix = helper.some_matrix(source, rows, columns, 0.05)
     return helper.scaled(matrix, added=source.randint(-50, 50), multiplied=source.randint(1, 9), shift=9)
-
-
-class Unchangeable(list):
-    """A list that tells on whoever changes it, for a while too."""
-
-    def refuse(self, *given, **named):
-        raise AssertionError("what is handed in is changed")
-
-    __setitem__ = __delitem__ = __iadd__ = __imul__ = refuse
-    append = clear = extend = insert = pop = remove = reverse = sort = refuse
 
 
 def a_line():

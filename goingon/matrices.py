@@ -1,0 +1,36 @@
+"""Matrices that are made from others, or from numbers, and what is told of them."""
+
+from goingon.form import Matrix
+from goingon.whole import BYTE_TOP, held
+
+
+# A sum that isn't 0 never becomes 0 by being held, so it may be held last.
+def held_line(pairs):
+    return [(column, held(number, BYTE_TOP)) for column, number in pairs if number != 0]
+
+
+def made(rows, columns, places, numbers):
+    sums = [{} for row in range(rows)]
+    for place, number in zip(places, numbers):
+        row_sums = sums[place // columns]
+        column = place % columns
+        row_sums[column] = row_sums.get(column, 0) + number
+    return Matrix(rows, columns, [held_line(sorted(row_sums.items())) for row_sums in sums])
+
+
+def full_numbers(matrix):
+    numbers = []
+    for line in matrix.lines:
+        full_line = [0] * matrix.columns
+        for column, number in line:
+            full_line[column] = number
+        numbers.extend(full_line)
+    return numbers
+
+
+def turned(matrix):
+    lines = [[] for column in range(matrix.columns)]
+    for row, line in enumerate(matrix.lines):
+        for column, number in line:
+            lines[column].append((row, number))
+    return Matrix(matrix.columns, matrix.rows, lines)
