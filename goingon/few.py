@@ -1,12 +1,14 @@
 """Calls that are each by themselves."""
 
-from goingon.form import form_bytes, form_size, how_many, read_matrix, shape_fits
-from goingon.matrices import full_numbers, made, turned
+from goingon.form import MOST_COLUMNS, form_bytes, form_size, how_many, read_matrix, shape_fits
+from goingon.matrices import full_numbers, made, times, turned
+from goingon.product import product
 from goingon.reader import Fault, Reader
 from goingon.whole import outside
 
 MOST_BYTES = 2097152
 MOST_PAIRS = 65536
+MOST_SHIFT = 30
 
 
 def few_check(s):
@@ -50,6 +52,39 @@ def few_turn(most, s):
     return form_answer(turned(matrix), most)
 
 
+def few_times(most, s, x):
+    if len(s) > MOST_BYTES or len(x) > MOST_COLUMNS or outside(most, 0, MOST_COLUMNS):
+        return [-1]
+    try:
+        matrix = whole_matrix(s)
+    except Fault:
+        return [-2]
+    return times_answer(matrix, x, most)
+
+
+def few_back(most, s, x):
+    if len(s) > MOST_BYTES or len(x) > MOST_COLUMNS or outside(most, 0, MOST_COLUMNS):
+        return [-1]
+    try:
+        matrix = whole_matrix(s)
+    except Fault:
+        return [-2]
+    return times_answer(turned(matrix), x, most)
+
+
+def few_product(sh, most, a, b):
+    if max(len(a), len(b)) > MOST_BYTES or outside(most, 0, MOST_BYTES) or outside(sh, 0, MOST_SHIFT):
+        return [-1]
+    try:
+        first = whole_matrix(a)
+        second = whole_matrix(b)
+    except Fault:
+        return [-2]
+    if first.columns != second.rows or not shape_fits(first.rows, second.columns):
+        return [-3]
+    return form_answer(product(first, second, sh), most)
+
+
 def whole_matrix(data):
     reader = Reader(data)
     matrix = read_matrix(reader)
@@ -62,3 +97,11 @@ def form_answer(matrix, most):
     if size > most:
         return [-4]
     return [size] + form_bytes(matrix)
+
+
+def times_answer(matrix, given, most):
+    if len(given) != matrix.columns:
+        return [-3]
+    if most < matrix.rows:
+        return [-4]
+    return [matrix.rows] + times(matrix, given)

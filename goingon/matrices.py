@@ -1,7 +1,7 @@
 """Matrices that are made from others, or from numbers, and what is told of them."""
 
 from goingon.form import Matrix
-from goingon.whole import BYTE_TOP, held
+from goingon.whole import BYTE_TOP, held, line_sum
 
 
 # A sum that isn't 0 never becomes 0 by being held, so it may be held last.
@@ -34,3 +34,7 @@ def turned(matrix):
         for column, number in line:
             lines[column].append((row, number))
     return Matrix(matrix.columns, matrix.rows, lines)
+
+
+def times(matrix, given):
+    return [line_sum(line, given) for line in matrix.lines]
