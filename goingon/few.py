@@ -1,14 +1,15 @@
 """Calls that are each by themselves."""
 
-from goingon.form import MOST_COLUMNS, form_bytes, form_size, how_many, read_matrix, shape_fits
-from goingon.matrices import full_numbers, made, times, turned
-from goingon.product import product
+from goingon.form import MOST_COLUMNS, MOST_ROWS, form_bytes, form_size, how_many, read_matrix, shape_fits
+from goingon.matrices import full_numbers, made, picked, summed, thinned, times, turned
+from goingon.packing import product
 from goingon.reader import Fault, Reader
 from goingon.whole import outside
 
 MOST_BYTES = 2097152
 MOST_PAIRS = 65536
 MOST_SHIFT = 30
+MOST_THIN = 128
 
 
 def few_check(s):
@@ -83,6 +84,41 @@ def few_product(sh, most, a, b):
     if first.columns != second.rows or not shape_fits(first.rows, second.columns):
         return [-3]
     return form_answer(product(first, second, sh), most)
+
+
+def few_sum(most, a, b):
+    if max(len(a), len(b)) > MOST_BYTES or outside(most, 0, MOST_BYTES):
+        return [-1]
+    try:
+        first = whole_matrix(a)
+        second = whole_matrix(b)
+    except Fault:
+        return [-2]
+    if first.rows != second.rows or first.columns != second.columns:
+        return [-3]
+    return form_answer(summed(first, second), most)
+
+
+def few_pick(most, s, row):
+    if len(s) > MOST_BYTES or outside(most, 0, MOST_BYTES) or outside(len(row), 1, MOST_ROWS):
+        return [-1]
+    try:
+        matrix = whole_matrix(s)
+    except Fault:
+        return [-2]
+    if max(row) >= matrix.rows or not shape_fits(len(row), matrix.columns):
+        return [-3]
+    return form_answer(picked(matrix, row), most)
+
+
+def few_thin(t, most, s):
+    if len(s) > MOST_BYTES or outside(most, 0, MOST_BYTES) or outside(t, 0, MOST_THIN):
+        return [-1]
+    try:
+        matrix = whole_matrix(s)
+    except Fault:
+        return [-2]
+    return form_answer(thinned(matrix, t), most)
 
 
 def whole_matrix(data):

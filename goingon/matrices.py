@@ -38,3 +38,26 @@ def turned(matrix):
 
 def times(matrix, given):
     return [line_sum(line, given) for line in matrix.lines]
+
+
+def summed(a, b):
+    return Matrix(a.rows, a.columns, [summed_line(line, other) for line, other in zip(a.lines, b.lines)])
+
+
+def summed_line(line, other):
+    sums = dict(line)
+    for column, number in other:
+        sums[column] = sums.get(column, 0) + number
+    return held_line(sorted(sums.items()))
+
+
+def picked(matrix, chosen):
+    return Matrix(len(chosen), matrix.columns, [matrix.lines[row] for row in chosen])
+
+
+def thinned(matrix, least):
+    return Matrix(matrix.rows, matrix.columns, [thinned_line(line, least) for line in matrix.lines])
+
+
+def thinned_line(line, least):
+    return [(column, number) for column, number in line if abs(number) >= least]
