@@ -4,6 +4,7 @@ from goingon.form import MOST_COLUMNS, MOST_ROWS, form_bytes, form_size, how_man
 from goingon.matrices import full_numbers, made, picked, summed, thinned, times, turned
 from goingon.packing import product
 from goingon.reader import Fault, Reader
+from goingon.weights import MOST_NET_BYTES, Net
 from goingon.whole import outside
 
 MOST_BYTES = 2097152
@@ -119,6 +120,16 @@ def few_thin(t, most, s):
     except Fault:
         return [-2]
     return form_answer(thinned(matrix, t), most)
+
+
+def goon_check(net):
+    if len(net) > MOST_NET_BYTES:
+        return [-1]
+    try:
+        found = Net(net)
+    except Fault as fault:
+        return [-2, fault.place, fault.kind]
+    return [0, found.words, found.width, len(found.layers), found.heads, found.inner, found.places]
 
 
 def whole_matrix(data):

@@ -3,9 +3,8 @@
 from goingon.choice import choose, word_scores
 from goingon.passing import Kept, pass_word
 from goingon.reader import Fault
-from goingon.weights import Net
+from goingon.weights import MOST_NET_BYTES, Net
 
-MOST_NET_BYTES = 16777216
 MOST_AT_ONCE = 256
 SEED_FACTOR = 6364136223846793005
 SEED_STEP = 1442695040888963407

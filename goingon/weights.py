@@ -3,6 +3,7 @@
 from goingon.form import read_told_lines
 from goingon.reader import Fault, Reader
 
+MOST_NET_BYTES = 16777216
 MARK = (71, 79, 78, 49)
 TABLE_SIZE = 256
 MOST_ADDED = 1073741824
@@ -20,7 +21,7 @@ class Net:
         self.width = reader.unsigned_within(2, 1, 256)
         self.heads = read_heads(reader, self.width)
         layers = reader.unsigned_within(1, 1, 8)
-        inner = reader.unsigned_within(2, 1, 1024)
+        self.inner = reader.unsigned_within(2, 1, 1024)
         self.places = reader.unsigned_within(2, 1, 256)
         self.word_power = reader.unsigned_within(1, 0, 7)
         self.place_power = reader.unsigned_within(1, 0, 7)
@@ -28,7 +29,7 @@ class Net:
         self.bend = [reader.signed(1) for entry in range(TABLE_SIZE)]
         self.word_lines = read_told_lines(reader, self.words, self.width)
         self.place_lines = read_told_lines(reader, self.places, self.width)
-        self.layers = [Layer(reader, self.width, inner) for layer in range(layers)]
+        self.layers = [Layer(reader, self.width, self.inner) for layer in range(layers)]
         self.last_gains = read_gains(reader, self.width)
         self.leanings = [reader.signed_within(4, -MOST_LEANING, MOST_LEANING) for word in range(self.words)]
         self.fall_shift = reader.unsigned_within(1, 0, MOST_FALL_SHIFT)

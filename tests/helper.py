@@ -103,6 +103,13 @@ def part_place(net, wanted):
     raise KeyError(wanted)
 
 
+def with_bytes(net, part, offset, data, size=None):
+    """The net's bytes, others in the place of those (as many, or size) from an offset of a part on."""
+    whole = net_bytes(net)
+    place = part_place(net, part) + offset
+    return whole[:place] + data + whole[place + (len(data) if size is None else size):]
+
+
 # What is handed in.
 
 class Unchangeable(list):
@@ -179,6 +186,10 @@ def silent_net(word, places=4, heads=1, layers=1, inner=1, last=None, leaning=No
         "layer": [silent_layer(width, inner) for layer in range(layers)],
         "last": last or [64] * width, "leaning": leaning or [0] * len(word), "c": 0,
     }
+
+
+def small_net():
+    return silent_net([[1, 0], [0, -2], [3, 4]], places=3, heads=2, layers=2, inner=3, leaning=[1, 2, 3])
 
 
 def some_matrix(source, rows, columns, share):

@@ -1,23 +1,12 @@
 import copy
 import unittest
 
-from helper import (ask, ask_net, begin, feed, forget, form, go_on, little, net_bytes, part_place, scaled,
-                    silent_net, some_net, tell, write, zeros)
-
-
-def small_net():
-    return silent_net([[1, 0], [0, -2], [3, 4]], places=3, heads=2, layers=2, inner=3, leaning=[1, 2, 3])
+from helper import (ask, ask_net, begin, feed, forget, form, go_on, little, net_bytes, scaled, silent_net, small_net,
+                    some_net, tell, with_bytes, write, zeros)
 
 
 def answer_to(data):
     return ask(begin(data))[0]
-
-
-def with_bytes(net, part, offset, data, size=None):
-    """The net's bytes, others in the place of those (as many, or size) from an offset of a part on."""
-    whole = net_bytes(net)
-    place = part_place(net, part) + offset
-    return whole[:place] + data + whole[place + (len(data) if size is None else size):]
 
 
 class Taken(unittest.TestCase):
