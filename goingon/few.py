@@ -34,9 +34,8 @@ def few_make(rows, cols, most, place, value):
 def few_full(most, s):
     if len(s) > MOST_BYTES or outside(most, 0, MOST_BYTES):
         return [-1]
-    try:
-        matrix = whole_matrix(s)
-    except Fault:
+    matrix = sound_matrix(s)
+    if matrix is None:
         return [-2]
     places = matrix.rows * matrix.columns
     if places > most:
@@ -47,40 +46,26 @@ def few_full(most, s):
 def few_turn(most, s):
     if len(s) > MOST_BYTES or outside(most, 0, MOST_BYTES):
         return [-1]
-    try:
-        matrix = whole_matrix(s)
-    except Fault:
+    matrix = sound_matrix(s)
+    if matrix is None:
         return [-2]
     return form_answer(turned(matrix), most)
 
 
 def few_times(most, s, x):
-    if len(s) > MOST_BYTES or len(x) > MOST_COLUMNS or outside(most, 0, MOST_COLUMNS):
-        return [-1]
-    try:
-        matrix = whole_matrix(s)
-    except Fault:
-        return [-2]
-    return times_answer(matrix, x, most)
+    return times_answer(most, s, x, False)
 
 
 def few_back(most, s, x):
-    if len(s) > MOST_BYTES or len(x) > MOST_COLUMNS or outside(most, 0, MOST_COLUMNS):
-        return [-1]
-    try:
-        matrix = whole_matrix(s)
-    except Fault:
-        return [-2]
-    return times_answer(turned(matrix), x, most)
+    return times_answer(most, s, x, True)
 
 
 def few_product(sh, most, a, b):
     if max(len(a), len(b)) > MOST_BYTES or outside(most, 0, MOST_BYTES) or outside(sh, 0, MOST_SHIFT):
         return [-1]
-    try:
-        first = whole_matrix(a)
-        second = whole_matrix(b)
-    except Fault:
+    first = sound_matrix(a)
+    second = sound_matrix(b)
+    if first is None or second is None:
         return [-2]
     if first.columns != second.rows or not shape_fits(first.rows, second.columns):
         return [-3]
@@ -90,10 +75,9 @@ def few_product(sh, most, a, b):
 def few_sum(most, a, b):
     if max(len(a), len(b)) > MOST_BYTES or outside(most, 0, MOST_BYTES):
         return [-1]
-    try:
-        first = whole_matrix(a)
-        second = whole_matrix(b)
-    except Fault:
+    first = sound_matrix(a)
+    second = sound_matrix(b)
+    if first is None or second is None:
         return [-2]
     if first.rows != second.rows or first.columns != second.columns:
         return [-3]
@@ -103,9 +87,8 @@ def few_sum(most, a, b):
 def few_pick(most, s, row):
     if len(s) > MOST_BYTES or outside(most, 0, MOST_BYTES) or outside(len(row), 1, MOST_ROWS):
         return [-1]
-    try:
-        matrix = whole_matrix(s)
-    except Fault:
+    matrix = sound_matrix(s)
+    if matrix is None:
         return [-2]
     if max(row) >= matrix.rows or not shape_fits(len(row), matrix.columns):
         return [-3]
@@ -115,9 +98,8 @@ def few_pick(most, s, row):
 def few_thin(t, most, s):
     if len(s) > MOST_BYTES or outside(most, 0, MOST_BYTES) or outside(t, 0, MOST_THIN):
         return [-1]
-    try:
-        matrix = whole_matrix(s)
-    except Fault:
+    matrix = sound_matrix(s)
+    if matrix is None:
         return [-2]
     return form_answer(thinned(matrix, t), most)
 
@@ -139,6 +121,13 @@ def whole_matrix(data):
     return matrix
 
 
+def sound_matrix(data):
+    try:
+        return whole_matrix(data)
+    except Fault:
+        return None
+
+
 def form_answer(matrix, most):
     size = form_size(matrix)
     if size > most:
@@ -146,7 +135,14 @@ def form_answer(matrix, most):
     return [size] + form_bytes(matrix)
 
 
-def times_answer(matrix, given, most):
+def times_answer(most, data, given, back):
+    if len(data) > MOST_BYTES or len(given) > MOST_COLUMNS or outside(most, 0, MOST_COLUMNS):
+        return [-1]
+    matrix = sound_matrix(data)
+    if matrix is None:
+        return [-2]
+    if back:
+        matrix = turned(matrix)
     if len(given) != matrix.columns:
         return [-3]
     if most < matrix.rows:

@@ -1,6 +1,8 @@
 import copy
 import unittest
 
+from goingon.session import Session
+
 from helper import (ask, ask_net, begin, feed, forget, form, go_on, little, net_bytes, scaled, silent_net, small_net,
                     some_net, tell, with_bytes, write, zeros)
 
@@ -160,6 +162,11 @@ class OtherFaults(unittest.TestCase):
                     other = copy.deepcopy(net)
                     other["layer"][number][part]["matrix"] = zeros(rows + more_rows, columns + more_columns)
                     self.assertEqual(answer_to(net_bytes(other)), [-2], (number, part, more_rows, more_columns))
+
+    def test_more_than_16777216_bytes(self):
+        # Handed straight to the session: as a list of calls it would be copied more than once.
+        self.assertEqual(Session().begin([0] * 16777216), [-2])
+        self.assertEqual(Session().begin([0] * 16777217), [-1])
 
     def test_nothing_at_all(self):
         self.assertEqual(answer_to([]), [-2])

@@ -65,6 +65,11 @@ class Feed(unittest.TestCase):
         self.assertEqual(ask_net(net, feed(*words), feed(0), feed()), [[256, 7 * 128], [-4], [256, 0]])
         self.assertEqual(ask_net(silent_net([[0]], places=1), feed(0), feed(0)), [[1, 0], [-4]])
 
+    def test_more_than_256_at_once(self):
+        net = silent_net([[0], [0]], places=256)
+        self.assertEqual(ask_net(net, feed(*[0] * 257), feed(), feed(*[5] * 257), feed(*[5] * 256)),
+                         [[-1], [0, 0], [-1], [-3]])
+
     def test_one_by_one_or_all_at_once(self):
         for net in live_nets():
             words = [3, 0, 2, 2, 1, 3]

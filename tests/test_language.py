@@ -159,6 +159,20 @@ class Code(unittest.TestCase):
         for name, node in nodes(ast.Attribute):
             self.assertIn(node.attr, defined | stored | OWN_METHODS, name)
 
+    def test_is_stands_beside_none_alone(self):
+        for name, node in nodes(ast.Compare):
+            for operator, right in zip(node.ops, node.comparators):
+                if isinstance(operator, (ast.Is, ast.IsNot)):
+                    self.assertIsInstance(right, ast.Constant, name)
+                    self.assertIn(right.value, (None, True, False), name)
+
+    def test_python_s_own_are_called_not_kept(self):
+        for name, tree in trees():
+            called = [node.func for node in ast.walk(tree) if isinstance(node, ast.Call)]
+            for node in ast.walk(tree):
+                if isinstance(node, ast.Name) and node.id in OWN_NAMES and node.id.islower():
+                    self.assertIn(node, called, (name, node.id))
+
     def test_names(self):
         python = set(builtins.dir(builtins))
         for name, node in nodes(ast.Name):

@@ -8,7 +8,7 @@ from goingon.few import few_check
 from goingon.net import answers
 
 import helper
-from helper import (Plain, Unchangeable, ask, ask_net, begin, feed, forget, form, net_bytes, parted, silent_net,
+from helper import (Plain, Unchangeable, ask, ask_net, begin, feed, forget, form, go_on, net_bytes, parted, silent_net,
                     some_net, tell, write)
 
 
@@ -108,6 +108,15 @@ class LongLines(unittest.TestCase):
         data = net_bytes(silent_net([[0], [0]], leaning=[-4, 4]))
         calls = begin(data) + [14] + [12, 0] + [12, 2, 0, 0] + [14] + [15, 1, 0] + [16, 1, 0, 1] + [13, 9] + [13, 2]
         self.assertEqual(answers(calls), [1, 0, 1, -5, 2, 0, 0, 2, 2, 8, 3, 2, -4, 4, 1, 1, 2, 1, 1, 1, -1, 1, 2])
+
+    def test_numbers_that_are_like_a_call_s(self):
+        for number in range(11, 17):
+            net = silent_net([[0]] * 20, places=60, leaning=[0] + [-1] * number + [9] + [-1] * (18 - number))
+            calls = [feed(*[number] * 20), go_on(number, number), write(number, number, number), forget(number), tell()]
+            plain = Plain(net)
+            expected = [plain.feed(*[number] * 20), plain.go_on(number, number), plain.write(number, number, number),
+                        plain.forget(number), plain.tell()]
+            self.assertEqual(ask_net(net, *calls), expected)
 
     def test_200_calls(self):
         net = silent_net([[0], [0]], places=256, leaning=[0, 1])
